@@ -1,0 +1,1 @@
+"""Bodies between points: corners and sides, exactly. The calls are in pointbodies.bodies."""
