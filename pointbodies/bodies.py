@@ -1,6 +1,9 @@
-"""The calls: bodies between points. Rows stand for points and half spaces as told in pointbodies.rows."""
+"""The calls: bodies between points and bodies that half spaces leave.
 
-from pointbodies.rows import common_divisor, crossings, each_once, negated, product, rank
+Rows stand for points and half spaces as told in pointbodies.rows.
+"""
+
+from pointbodies.rows import common_divisor, crossings, each_once, negated, product, rank, reduced, unit_row
 
 WRONG_DIMENSIONS = -3
 WRONG_COUNT = -2
@@ -8,7 +11,9 @@ WRONG_NUMBERS = -1
 NOT_REFUSED = 0
 
 MOST_POINTS = 10
+MOST_HALVES = 7
 REACH = 100
+BOUND_REACH = 10000
 
 
 def hull(n, points):
@@ -23,6 +28,18 @@ def hull(n, points):
     return told_body(n, corners, sides)
 
 
+def cut(n, halves):
+    """Answers the body that the half spaces leave of the cube, or a refusal."""
+    refused = refusal_of_halves(n, halves)
+    if refused != NOT_REFUSED:
+        return [refused]
+    rows = cube(n) + [half[:n] + [-half[n]] for half in halves]
+    rows = each_once([reduced(row) for row in rows])
+    corners = corners_left(rows)
+    sides = [row for row in rows if is_met(row, corners)]
+    return told_body(n, in_order(corners), sides)
+
+
 def refusal_of_points(n, points):
     """Answers the first refusal that n or the points earn."""
     if n < 2 or n > 4:
@@ -33,6 +50,28 @@ def refusal_of_points(n, points):
         if len(point) != n or not within(point, REACH):
             return WRONG_NUMBERS
     return NOT_REFUSED
+
+
+def refusal_of_halves(n, halves):
+    """Answers the first refusal that n or the half spaces earn."""
+    if n < 2 or n > 4:
+        return WRONG_DIMENSIONS
+    if len(halves) > MOST_HALVES:
+        return WRONG_COUNT
+    for half in halves:
+        if not is_half(n, half):
+            return WRONG_NUMBERS
+    return NOT_REFUSED
+
+
+def is_half(n, numbers):
+    """Answers whether the numbers tell a half space."""
+    if len(numbers) != n + 1:
+        return False
+    front = numbers[:n]
+    if not within(front, REACH) or not within(numbers[n:], BOUND_REACH):
+        return False
+    return any([number != 0 for number in front])
 
 
 def within(numbers, reach):
@@ -79,6 +118,40 @@ def is_met(row, others):
     return rank([other for other in others if product(row, other) == 0]) == len(row) - 1
 
 
+def cube(n):
+    """Answers the half spaces that together have just the cube."""
+    rows = []
+    for place in range(n):
+        front = unit_row(n, place)
+        rows.append(front + [-REACH])
+        rows.append(negated(front) + [-REACH])
+    return rows
+
+
+def corners_left(rows):
+    """Answers the corners of what the half spaces leave, the cube's among them.
+
+    What they leave has an end every way, so each point of it where bounds
+    meet in no other point is a corner, and there are no other corners. For
+    the same reason a row with 0 below, which is a direction and no point, is
+    never within all of the half spaces.
+    """
+    found = []
+    for crossing in crossings(rows, len(rows[0])):
+        point = crossing if crossing[-1] > 0 else negated(crossing)
+        if max([product(point, row) for row in rows]) <= 0:
+            found.append(point)
+    return each_once(found)
+
+
+def in_order(points):
+    """Answers the points, which may have different numbers below, in order."""
+    shared = 1
+    for point in points:
+        shared = shared * (point[-1] // common_divisor([shared, point[-1]]))
+    return sorted(points, key=lambda row: [above * (shared // row[-1]) for above in row[:-1]])
+
+
 def told_body(n, corners, sides):
     """Answers the numbers that tell a body; its corners are in order.
 
@@ -90,7 +163,7 @@ def told_body(n, corners, sides):
         answer.extend(told_point(corner))
     if dimensions == n:
         answer.append(len(sides))
-        for side in each_once([side[:n] + [-side[n]] for side in sides]):
+        for side in sorted([row[:n] + [-row[n]] for row in sides]):
             answer.extend(side)
     return answer
 

@@ -1,7 +1,7 @@
 """Bodies found in another way than the program's, straight from the document's words, slow and with fractions."""
 
 from fractions import Fraction
-from itertools import combinations
+from itertools import combinations, product
 from math import gcd, lcm
 
 
@@ -93,15 +93,13 @@ def sides(n, points):
     return sorted(found)
 
 
-def told(n, corners):
-    """The body between the corners, which are in order, number by number."""
-    lie = dimensions(corners)
+def body(lie, corners, found=None):
+    """The answer that tells a body by its dimensions, its corners and, if it has them, its sides, all in order."""
     answer = [lie, len(corners)]
     for corner in corners:
         for x in corner:
             answer += [Fraction(x).numerator, Fraction(x).denominator]
-    if lie == n:
-        found = sides(n, corners)
+    if found is not None:
         answer.append(len(found))
         for side in found:
             answer += side
@@ -109,4 +107,43 @@ def told(n, corners):
 
 
 def hull(n, points):
-    return told(n, without_mixtures(points))
+    corners = without_mixtures(points)
+    lie = dimensions(corners)
+    return body(lie, corners, sides(n, corners) if lie == n else None)
+
+
+def above_bound(half, point):
+    return sum(a * x for a, x in zip(half, point)) - half[-1]
+
+
+def clipped(points, half):
+    """Points between which lies what the half space leaves of what's between these points."""
+    kept = [p for p in points if above_bound(half, p) <= 0]
+    for p in points:
+        for q in points:
+            down, up = above_bound(half, p), above_bound(half, q)
+            if down < 0 < up:
+                kept.append(tuple(x + (y - x) * Fraction(-down, up - down) for x, y in zip(p, q)))
+    return sorted(set(kept))
+
+
+def is_corner(point, halves):
+    """Whether the bounds on which the point lies go through no other point."""
+    normals = [half[:-1] for half in halves if above_bound(half, point) == 0]
+    return len(echelon(normals)[1]) == len(point)
+
+
+def cut(n, halves):
+    """The cube, clipped by one half space after the other."""
+    cube = [[sign * (k == place) for k in range(n)] + [100] for place in range(n) for sign in (1, -1)]
+    points = [tuple(map(Fraction, p)) for p in product((-100, 100), repeat=n)]
+    for k, half in enumerate(halves):
+        points = [p for p in clipped(points, half) if is_corner(p, cube + halves[:k + 1])]
+    lie = dimensions(points)
+    if lie < n:
+        return body(lie, points)
+    if len(points) <= 14 - n:
+        return body(lie, points, sides(n, points))
+    bounds = [half for half in cube + halves
+              if dimensions([p for p in points if above_bound(half, p) == 0]) == n - 1]
+    return body(lie, points, sorted(set(map(whole, bounds))))

@@ -6,19 +6,7 @@ from random import Random
 
 from pointbodies.bodies import hull
 from tests import reference
-
-
-def body(lie, corners, sides=None):
-    """The answer that tells this body of points of whole numbers."""
-    answer = [lie, len(corners)]
-    for corner in corners:
-        for x in corner:
-            answer += [x, 1]
-    if sides is not None:
-        answer.append(len(sides))
-        for side in sides:
-            answer += side
-    return answer
+from tests.reference import body
 
 
 TRIANGLE = [[0, 0], [4, 0], [0, 3]]
@@ -97,6 +85,14 @@ class Edges(unittest.TestCase):
         self.assertEqual(hull(2, [[1, 5], [-1, 5]]), body(1, [(-1, 5), (1, 5)]))
         self.assertEqual(hull(3, [[3, -3, 6], [1, -1, 2], [-1, 1, -2]]), body(1, [(-1, 1, -2), (3, -3, 6)]))
         self.assertEqual(hull(4, [[0, 0, 0, 3], [0, 0, 0, 1], [0, 0, 0, 2]]), body(1, [(0, 0, 0, 1), (0, 0, 0, 3)]))
+
+    def test_points_along_the_first_numbers(self):
+        self.assertEqual(hull(2, [[1, 0], [-1, 0], [0, 0]]), body(1, [(-1, 0), (1, 0)]))
+        self.assertEqual(hull(3, [[1, -7, 0], [-1, -7, 0], [0, -7, 0]]), body(1, [(-1, -7, 0), (1, -7, 0)]))
+        self.assertEqual(hull(4, [[2, 0, 0, 0], [1, 0, 0, 0], [5, 0, 0, 0]]), body(1, [(1, 0, 0, 0), (5, 0, 0, 0)]))
+        flat = [[x, y, 0] for x, y in TRIANGLE + [[1, 1]]]
+        self.assertEqual(hull(3, flat), body(2, [(0, 0, 0), (0, 3, 0), (4, 0, 0)]))
+        self.assertEqual(hull(4, [p + [0] for p in flat]), body(2, [(0, 0, 0, 0), (0, 3, 0, 0), (4, 0, 0, 0)]))
 
     def test_points_on_a_plane(self):
         square = [[x, y, x + y] for x in (0, 1, 2) for y in (0, 1, 2)]
