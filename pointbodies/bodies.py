@@ -1,10 +1,12 @@
-"""The calls: bodies between points and bodies that half spaces leave.
+"""The calls: bodies between points, bodies that half spaces leave, and places among points.
 
 Rows stand for points and half spaces as told in pointbodies.rows.
 """
 
-from pointbodies.rows import common_divisor, crossings, each_once, negated, product, rank, reduced, unit_row
+from pointbodies.rows import common_divisor, common_multiple, crossings, each_once, negated, product
+from pointbodies.rows import rank, reduced, unit_row
 
+WRONG_PLACE = -4
 WRONG_DIMENSIONS = -3
 WRONG_COUNT = -2
 WRONG_NUMBERS = -1
@@ -14,6 +16,12 @@ MOST_POINTS = 10
 MOST_HALVES = 7
 REACH = 100
 BOUND_REACH = 10000
+MOST_ABOVE = 100000
+MOST_BELOW = 1000
+
+NOT_BETWEEN = 0
+BETWEEN = 1
+INSIDE = 2
 
 
 def hull(n, points):
@@ -21,7 +29,7 @@ def hull(n, points):
     refused = refusal_of_points(n, points)
     if refused != NOT_REFUSED:
         return [refused]
-    rows = each_once([point + [1] for point in points])
+    rows = rows_of_points(points)
     flat = flattened(rows)
     sides = sides_between(flat)
     corners = [row for row, shadow in zip(rows, flat) if is_met(shadow, sides)]
@@ -40,6 +48,14 @@ def cut(n, halves):
     return told_body(n, in_order(corners), sides)
 
 
+def where(n, place, points):
+    """Answers how the place lies to what's between the points, or a refusal."""
+    refused = refusal_of_place(n, place, points)
+    if refused != NOT_REFUSED:
+        return [refused]
+    return [standing(n, row_of_place(place), rows_of_points(points))]
+
+
 def refusal_of_points(n, points):
     """Answers the first refusal that n or the points earn."""
     if n < 2 or n > 4:
@@ -50,6 +66,21 @@ def refusal_of_points(n, points):
         if len(point) != n or not within(point, REACH):
             return WRONG_NUMBERS
     return NOT_REFUSED
+
+
+def refusal_of_place(n, place, points):
+    """Answers the first refusal that n, the points or the place earn."""
+    refused = refusal_of_points(n, points)
+    if refused == NOT_REFUSED and not is_place(n, place):
+        return WRONG_PLACE
+    return refused
+
+
+def is_place(n, numbers):
+    """Answers whether the numbers tell a place; what's above and below may have a common divisor."""
+    if len(numbers) != 2 * n or not within(numbers[::2], MOST_ABOVE):
+        return False
+    return all([1 <= below and below <= MOST_BELOW for below in numbers[1::2]])
 
 
 def refusal_of_halves(n, halves):
@@ -77,6 +108,34 @@ def is_half(n, numbers):
 def within(numbers, reach):
     """Answers whether each number is from -reach to reach."""
     return all([-reach <= number and number <= reach for number in numbers])
+
+
+def rows_of_points(points):
+    """Answers the points' rows in order, each one time."""
+    return each_once([point + [1] for point in points])
+
+
+def row_of_place(numbers):
+    """Answers the row of the place that the numbers tell: the spot."""
+    shared = common_multiple(numbers[1::2])
+    return [above * (shared // below) for above, below in zip(numbers[::2], numbers[1::2])] + [shared]
+
+
+def standing(n, spot, rows):
+    """Answers how the spot lies to what's between the points.
+
+    Points in fewer than n dimensions have no sides, but flattened they do: a
+    spot that lies in the same dimensions is between them if it is in all of these.
+    """
+    if rank(rows + [spot]) > rank(rows):
+        return NOT_BETWEEN
+    flat = flattened(rows + [spot])
+    furthest = max([product(side, flat[-1]) for side in sides_between(flat[:-1])])
+    if furthest > 0:
+        return NOT_BETWEEN
+    if furthest < 0 and rank(rows) > n:
+        return INSIDE
+    return BETWEEN
 
 
 def flattened(rows):
@@ -146,9 +205,7 @@ def corners_left(rows):
 
 def in_order(points):
     """Answers the points, which may have different numbers below, in order."""
-    shared = 1
-    for point in points:
-        shared = shared * (point[-1] // common_divisor([shared, point[-1]]))
+    shared = common_multiple([point[-1] for point in points])
     return sorted(points, key=lambda row: [above * (shared // row[-1]) for above in row[:-1]])
 
 

@@ -21,6 +21,14 @@ def common_divisor(numbers):
     return divisor
 
 
+def common_multiple(numbers):
+    """Answers the least number that all of them, each above 0, divide."""
+    multiple = 1
+    for number in numbers:
+        multiple = multiple * (number // common_divisor([multiple, number]))
+    return multiple
+
+
 def reduced(row):
     """Answers the row, not all 0, without its common divisor."""
     divisor = common_divisor(row)

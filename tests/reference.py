@@ -112,6 +112,21 @@ def hull(n, points):
     return body(lie, corners, sides(n, corners) if lie == n else None)
 
 
+def fractions(place):
+    """The point that a place's numbers, above and below in turn, tell."""
+    return tuple(Fraction(above, below) for above, below in zip(place[::2], place[1::2]))
+
+
+def where(n, place, points):
+    spot = fractions(place)
+    once = sorted(set(map(tuple, points)))
+    if not is_mixture(spot, once):
+        return [0]
+    if dimensions(once) < n or any(above_bound(side, spot) == 0 for side in sides(n, once)):
+        return [1]
+    return [2]
+
+
 def above_bound(half, point):
     return sum(a * x for a, x in zip(half, point)) - half[-1]
 

@@ -138,6 +138,8 @@ bodies.hull(2, [[0, 0], [4, 0], [0, 3]])
 bodies.hull(2, [])
 bodies.cut(3, [[1, 2, 3, 4]])
 bodies.cut(3, [[]])
+bodies.where(2, [1, 2, 1, 2], [[0, 0], [4, 0], [0, 3]])
+bodies.where(2, [], [[0, 0]])
 more = sorted(name for name in set(sys.modules) - before if name.split(".")[0] != "pointbodies")
 if more:
     sys.exit(repr(more))
