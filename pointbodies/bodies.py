@@ -3,8 +3,8 @@
 Rows stand for points and half spaces as told in pointbodies.rows.
 """
 
-from pointbodies.rows import common_divisor, common_multiple, crossings, each_once, negated, product
-from pointbodies.rows import rank, reduced, unit_row
+from pointbodies.rows import choices, common_multiple, crossings, each_once, negated, product
+from pointbodies.rows import rank, reduced, relations, unit_row
 
 WRONG_PLACE = -4
 WRONG_DIMENSIONS = -3
@@ -32,8 +32,7 @@ def hull(n, points):
     rows = rows_of_points(points)
     flat = flattened(rows)
     sides = sides_between(flat)
-    corners = [row for row, shadow in zip(rows, flat) if is_met(shadow, sides)]
-    return told_body(n, corners, sides)
+    return told_body(n, corners_between(rows, flat, sides), sides)
 
 
 def cut(n, halves):
@@ -54,6 +53,24 @@ def where(n, place, points):
     if refused != NOT_REFUSED:
         return [refused]
     return [standing(n, row_of_place(place), rows_of_points(points))]
+
+
+def mixed(n, place, points):
+    """Answers of which fewest corners the place is mixed, or beyond which side it lies, or a refusal."""
+    refused = refusal_of_place(n, place, points)
+    if refused != NOT_REFUSED:
+        return [refused]
+    spot = row_of_place(place)
+    rows = rows_of_points(points)
+    flat = flattened(rows)
+    sides = sides_between(flat)
+    mixture = fewest_mixture(spot, corners_between(rows, flat, sides))
+    if len(mixture) > 0:
+        return [BETWEEN] + mixture
+    if rank(rows) <= n:
+        return [NOT_BETWEEN]
+    beyond = [side for side in sides if product(side, spot) > 0]
+    return [NOT_BETWEEN] + in_told_order(n, beyond)[0]
 
 
 def refusal_of_points(n, points):
@@ -169,12 +186,42 @@ def sides_between(rows):
     return each_once(found)
 
 
+def corners_between(rows, flat, sides):
+    """Answers those of the points that are corners, by what they are flattened to and the sides of that."""
+    return [row for row, shadow in zip(rows, flat) if is_met(shadow, sides)]
+
+
 def is_met(row, others):
     """Answers whether enough of the others have product 0 with the row to leave no other such row.
 
     So a point of a body is a corner if its sides meet there in no other point.
     """
     return rank([other for other in others if product(row, other) == 0]) == len(row) - 1
+
+
+def fewest_mixture(spot, corners):
+    """Answers what tells the first of the spot's mixtures of the fewest corners; nothing if there is none.
+
+    No more corners are needed than the spot's row has numbers: of more, some would be made of the others.
+    """
+    for numbers in choices(len(corners), len(spot)):
+        weights = weights_of(spot, [corners[number] for number in numbers])
+        if len(weights) > 0:
+            return told_mixture(numbers, weights)
+    return []
+
+
+def weights_of(spot, corners):
+    """Answers whole numbers above 0, one for each corner, that are to one another as the parts the spot is mixed of.
+
+    Nothing, if there are none, or if one of the corners is made of the others: then fewer are enough.
+    """
+    ways = relations(corners + [spot])
+    if len(ways) != 1:
+        return []
+    way = ways[0] if ways[0][-1] < 0 else negated(ways[0])
+    weights = way[:-1]
+    return weights if min(weights) > 0 else []
 
 
 def cube(n):
@@ -220,17 +267,29 @@ def told_body(n, corners, sides):
         answer.extend(told_point(corner))
     if dimensions == n:
         answer.append(len(sides))
-        for side in sorted([row[:n] + [-row[n]] for row in sides]):
+        for side in in_told_order(n, sides):
             answer.extend(side)
+    return answer
+
+
+def in_told_order(n, sides):
+    """Answers the numbers that tell each of the sides, in order."""
+    return sorted([row[:n] + [-row[n]] for row in sides])
+
+
+def told_mixture(numbers, weights):
+    """Answers how many corners it is a mixture of, and each one's number and part."""
+    whole = sum(weights)
+    answer = [len(numbers)]
+    for number, weight in zip(numbers, weights):
+        answer.append(number)
+        answer.extend(reduced([weight, whole]))
     return answer
 
 
 def told_point(row):
     """Answers each number of the point as a fraction with nothing in common."""
-    below = row[-1]
     told = []
     for above in row[:-1]:
-        divisor = common_divisor([above, below])
-        told.append(above // divisor)
-        told.append(below // divisor)
+        told.extend(reduced([above, row[-1]]))
     return told

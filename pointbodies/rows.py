@@ -111,3 +111,33 @@ def with_one_more(chosen, rows):
             if len(rest) < len(basis):
                 more.append((k + 1, rest))
     return more
+
+
+def relations(rows):
+    """Answers rows of factors, one for each row, of which every row of factors is made that makes 0 of the rows."""
+    basis = unit_rows(len(rows))
+    for column in range(len(rows[0])):
+        basis = narrowed(basis, [row[column] for row in rows])
+    return basis
+
+
+def choices(count, most):
+    """Answers all choices of 1 to most of the numbers from 0 to count - 1, those of fewer numbers first.
+
+    Each choice is rising, and those of as many numbers are in order.
+    """
+    found = []
+    chosen = [[]]
+    for size in range(most):
+        chosen = with_a_later_number(chosen, count)
+        found.extend(chosen)
+    return found
+
+
+def with_a_later_number(chosen, count):
+    """Answers the choices, each with each number above all of its own."""
+    more = []
+    for numbers in chosen:
+        start = numbers[-1] + 1 if len(numbers) > 0 else 0
+        more.extend([numbers + [number] for number in range(start, count)])
+    return more

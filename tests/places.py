@@ -42,18 +42,19 @@ def random_place(random, n, points):
     for k in range(n):
         place += [sum(weight * point[k] for weight, point in zip(weights, some)), below]
     if random.random() < 0.3:
-        times = 1000 // below
         way = random.randrange(n)
+        times = min(1000 // below, 99999 // max(1, abs(place[2 * way])))
         place[2 * way] = place[2 * way] * times + random.choice((-1, 1))
         place[2 * way + 1] = below * times
     return place
 
 
 def tries(seed, times):
-    """Many n, places and points: for each n and each count of dimensions so many places."""
+    """Many n, places and points: for each n and each count of dimensions so many times points, four places to each."""
     random = Random(seed)
     for n in (2, 3, 4):
         for lie, reach in [(lie, 4) for lie in range(n)] + [(n, 1), (n, 3), (n, 99)]:
             for time in range(times):
                 points = random_points(random, n, lie, reach)
-                yield n, random_place(random, n, points), points
+                for place in range(4):
+                    yield n, random_place(random, n, points), points

@@ -1,6 +1,7 @@
 """Bodies found in another way than the program's, straight from the document's words, slow and with fractions."""
 
 from fractions import Fraction
+from functools import lru_cache
 from itertools import combinations, product
 from math import gcd, lcm
 
@@ -64,7 +65,12 @@ def is_mixture(place, points):
 
 
 def without_mixtures(points):
-    once = sorted(set(map(tuple, points)))
+    return list(kept_corners(tuple(sorted(set(map(tuple, points))))))
+
+
+@lru_cache(maxsize=1)
+def kept_corners(once):
+    """Kept for the points asked for last, since it is slow and many places are tried on the same points."""
     return [p for p in once if not is_mixture(p, [q for q in once if q != p])]
 
 
@@ -125,6 +131,30 @@ def where(n, place, points):
     if dimensions(once) < n or any(above_bound(side, spot) == 0 for side in sides(n, once)):
         return [1]
     return [2]
+
+
+def mixtures(spot, corners, count):
+    """The numbers of each so many corners of which the spot is mixed, and its parts of them."""
+    found = []
+    for numbers in combinations(range(len(corners)), count):
+        of_each = parts(spot, [corners[number] for number in numbers])
+        if of_each is not None and min(of_each) >= 0:
+            found.append((numbers, of_each))
+    return found
+
+
+def mixed(n, place, points):
+    spot = fractions(place)
+    corners = without_mixtures(points)
+    for count in range(1, n + 2):
+        found = mixtures(spot, corners, count)
+        if found:
+            answer = [1, count]
+            for number, part in zip(*min(found)):
+                answer += [number, part.numerator, part.denominator]
+            return answer
+    beyond = [side for side in (sides(n, corners) if dimensions(corners) == n else []) if above_bound(side, spot) > 0]
+    return [0, *min(beyond, default=())]
 
 
 def above_bound(half, point):

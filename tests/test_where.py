@@ -6,6 +6,7 @@ from itertools import product
 from pointbodies.bodies import where
 from tests import reference
 from tests.places import CROSS, PYRAMID, TEN, TRIANGLE, told, tries
+from tests.refused import PlaceRefusals
 
 
 class Places(unittest.TestCase):
@@ -41,7 +42,7 @@ class Ordinary(Places):
 
     def test_against_the_words(self):
         seen = {0: 0, 1: 0, 2: 0}
-        for n, place, points in tries(6, 25):
+        for n, place, points in tries(6, 10):
             with self.subTest(n=n, place=place, points=points):
                 answer = where(n, place, points)
                 self.assertEqual(answer, reference.where(n, place, points))
@@ -163,73 +164,9 @@ class Edges(Places):
                 self.assertEqual(where(3, place, (points[k:] + points[:k])[::-1]), [wanted])
 
 
-class Refusals(unittest.TestCase):
-    def test_n(self):
-        for n in (1, 0, -1, -2, 5, 6, 4294967295, -4294967295):
-            count = max(0, min(n, 6))
-            self.assertEqual(where(n, [0, 1] * count, [[0] * count]), [-3])
-            self.assertEqual(where(n, [1, 1, 1, 1], TRIANGLE), [-3])
-
-    def test_count_of_points(self):
-        for n in (2, 3, 4):
-            self.assertEqual(where(n, [0, 1] * n, []), [-2])
-            self.assertEqual(where(n, [0, 1] * n, [[k] * n for k in range(11)]), [-2])
-            self.assertEqual(where(n, [0, 1] * n, [[k] * n for k in range(12)]), [-2])
-            self.assertEqual(where(n, [0, 1] * n, [[0] * n] * 11), [-2])
-            self.assertEqual(where(n, [0, 1] * n, [[k] * n for k in range(10)]), [1])
-
-    def test_points_that_are_not_as_told(self):
-        for n in (2, 3, 4):
-            for count in range(7):
-                self.assertEqual(where(n, [0, 1] * n, [[1] * n, [0] * count]), [-1] if count != n else [1])
-            for way in range(n):
-                for wrong in (101, -101, 4294967295, -4294967295):
-                    point = [0] * n
-                    point[way] = wrong
-                    self.assertEqual(where(n, [0, 1] * n, [point]), [-1])
-                    self.assertEqual(where(n, [0, 1] * n, [[0] * n] * 9 + [point]), [-1])
-
-    def test_count_of_the_places_numbers(self):
-        for n in (2, 3, 4):
-            for count in range(13):
-                self.assertEqual(where(n, [1] * count, [[1] * n]), [-4] if count != 2 * n else [1])
-
-    def test_above_out_of_range(self):
-        for n in (2, 3, 4):
-            for way in range(n):
-                for below in (1, 1000):
-                    for above in (100001, -100001, 4294967295, -4294967295):
-                        place = [0, 1] * n
-                        place[2 * way:2 * way + 2] = [above, below]
-                        self.assertEqual(where(n, place, [[0] * n]), [-4])
-                    for above in (100000, -100000, 1000, 1001):
-                        place = [0, 1] * n
-                        place[2 * way:2 * way + 2] = [above, below]
-                        self.assertEqual(where(n, place, [[0] * n]), [0])
-
-    def test_below_out_of_range(self):
-        for n in (2, 3, 4):
-            for way in range(n):
-                for below in (0, -1, -2, -1000, 1001, 2000, 100000, 4294967295, -4294967295):
-                    for above in (0, 5):
-                        place = [0, 1] * n
-                        place[2 * way:2 * way + 2] = [above, below]
-                        self.assertEqual(where(n, place, [[0] * n]), [-4])
-                for below in (1, 2, 999, 1000):
-                    place = [0, 1] * n
-                    place[2 * way + 1] = below
-                    self.assertEqual(where(n, place, [[0] * n]), [1])
-
-    def test_the_one_told_first(self):
-        self.assertEqual(where(5, [], []), [-3])
-        self.assertEqual(where(1, [0, 0], [[101]] * 11), [-3])
-        self.assertEqual(where(2, [], []), [-2])
-        self.assertEqual(where(2, [0, 0, 0, 0], [[101, 0]] * 11), [-2])
-        self.assertEqual(where(3, [1], [[]] * 12), [-2])
-        self.assertEqual(where(2, [], [[101, 0]]), [-1])
-        self.assertEqual(where(3, [0, 0, 0, 0, 0, 0], [[1, 2], [0, 0, 0]]), [-1])
-        self.assertEqual(where(4, [100001, 1001] * 4, [[0, 0, 0, 0], [0, 0, 0, 101]]), [-1])
-        self.assertEqual(where(4, [100001, 1001] * 4, [[0, 0, 0, 0]]), [-4])
+class Refusals(PlaceRefusals, unittest.TestCase):
+    call = where
+    at_the_first = [1]
 
 
 class EachCallByItself(unittest.TestCase):
