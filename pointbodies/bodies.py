@@ -1,4 +1,4 @@
-"""The calls: bodies between points, bodies that half spaces leave, and places among points.
+"""The calls: bodies between points, bodies that half spaces leave, places and directions among points.
 
 Rows stand for points and half spaces as told in pointbodies.rows.
 """
@@ -7,6 +7,7 @@ from pointbodies.rows import choices, common_multiple, crossings, each_once, neg
 from pointbodies.rows import rank, reduced, relations, unit_row
 
 WRONG_PLACE = -4
+WRONG_DIRECTION = -4
 WRONG_DIMENSIONS = -3
 WRONG_COUNT = -2
 WRONG_NUMBERS = -1
@@ -73,6 +74,17 @@ def mixed(n, place, points):
     return [NOT_BETWEEN] + in_told_order(n, beyond)[0]
 
 
+def most(n, direction, points):
+    """Answers at which corners the direction times the point is most, and that most, or a refusal."""
+    refused = refusal_of_direction(n, direction, points)
+    if refused != NOT_REFUSED:
+        return [refused]
+    rows = rows_of_points(points)
+    flat = flattened(rows)
+    corners = corners_between(rows, flat, sides_between(flat))
+    return told_furthest([product(direction, corner[:n]) for corner in corners])
+
+
 def refusal_of_points(n, points):
     """Answers the first refusal that n or the points earn."""
     if n < 2 or n > 4:
@@ -80,9 +92,14 @@ def refusal_of_points(n, points):
     if len(points) == 0 or len(points) > MOST_POINTS:
         return WRONG_COUNT
     for point in points:
-        if len(point) != n or not within(point, REACH):
+        if not is_point(n, point):
             return WRONG_NUMBERS
     return NOT_REFUSED
+
+
+def is_point(n, numbers):
+    """Answers whether the numbers tell a point, or a direction, which is told alike."""
+    return len(numbers) == n and within(numbers, REACH)
 
 
 def refusal_of_place(n, place, points):
@@ -98,6 +115,14 @@ def is_place(n, numbers):
     if len(numbers) != 2 * n or not within(numbers[::2], MOST_ABOVE):
         return False
     return all([1 <= below and below <= MOST_BELOW for below in numbers[1::2]])
+
+
+def refusal_of_direction(n, direction, points):
+    """Answers the first refusal that n, the points or the direction earn."""
+    refused = refusal_of_points(n, points)
+    if refused == NOT_REFUSED and not is_point(n, direction):
+        return WRONG_DIRECTION
+    return refused
 
 
 def refusal_of_halves(n, halves):
@@ -285,6 +310,16 @@ def told_mixture(numbers, weights):
         answer.append(number)
         answer.extend(reduced([weight, whole]))
     return answer
+
+
+def told_furthest(products):
+    """Answers how many of the corners' products are most, that most, and these corners' numbers.
+
+    Points and directions are whole numbers, so what's below is 1.
+    """
+    furthest = max(products)
+    numbers = [number for number in range(len(products)) if products[number] == furthest]
+    return [len(numbers), furthest, 1] + numbers
 
 
 def told_point(row):

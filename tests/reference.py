@@ -157,6 +157,13 @@ def mixed(n, place, points):
     return [0, *min(beyond, default=())]
 
 
+def most(n, direction, points):
+    products = [sum(a * x for a, x in zip(direction, corner)) for corner in without_mixtures(points)]
+    numbers = [number for number, reached in enumerate(products) if all(reached >= other for other in products)]
+    above = Fraction(products[numbers[0]])
+    return [len(numbers), above.numerator, above.denominator, *numbers]
+
+
 def above_bound(half, point):
     return sum(a * x for a, x in zip(half, point)) - half[-1]
 

@@ -143,6 +143,8 @@ bodies.where(2, [], [[0, 0]])
 bodies.mixed(2, [1, 2, 1, 2], [[0, 0], [4, 0], [0, 3]])
 bodies.mixed(2, [5, 1, 5, 1], [[0, 0], [4, 0], [0, 3]])
 bodies.mixed(2, [], [[0, 0]])
+bodies.most(2, [1, 2], [[0, 0], [4, 0], [0, 3]])
+bodies.most(2, [], [[0, 0]])
 more = sorted(name for name in set(sys.modules) - before if name.split(".")[0] != "pointbodies")
 if more:
     sys.exit(repr(more))
