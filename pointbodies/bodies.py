@@ -41,8 +41,7 @@ def cut(n, halves):
     refused = refusal_of_halves(n, halves)
     if refused != NOT_REFUSED:
         return [refused]
-    rows = cube(n) + [half[:n] + [-half[n]] for half in halves]
-    rows = each_once([reduced(row) for row in rows])
+    rows = each_once(cube(n) + rows_of_halves(n, halves))
     corners = corners_left(rows)
     sides = [row for row in rows if is_met(row, corners)]
     return told_body(n, in_order(corners), sides)
@@ -83,6 +82,16 @@ def most(n, direction, points):
     flat = flattened(rows)
     corners = corners_between(rows, flat, sides_between(flat))
     return told_furthest([product(direction, corner[:n]) for corner in corners])
+
+
+def needless(n, halves):
+    """Answers which of the half spaces are needless, or a refusal."""
+    refused = refusal_of_halves(n, halves)
+    if refused != NOT_REFUSED:
+        return [refused]
+    rows = rows_of_halves(n, halves)
+    places = [place for place in range(len(rows)) if is_needless(n, rows, place)]
+    return [len(places)] + places
 
 
 def refusal_of_points(n, points):
@@ -155,6 +164,11 @@ def within(numbers, reach):
 def rows_of_points(points):
     """Answers the points' rows in order, each one time."""
     return each_once([point + [1] for point in points])
+
+
+def rows_of_halves(n, halves):
+    """Answers the half spaces' rows, in the order told, so that the same half space has the same row."""
+    return [reduced(half[:n] + [-half[n]]) for half in halves]
 
 
 def row_of_place(numbers):
@@ -273,6 +287,16 @@ def corners_left(rows):
         if max([product(point, row) for row in rows]) <= 0:
             found.append(point)
     return each_once(found)
+
+
+def is_needless(n, rows, place):
+    """Answers whether the half space at this place has all that the others leave of the cube.
+
+    That is all between the corners of what they leave, so it has it all if it
+    has these; if they leave nothing, there is nothing that it lacks.
+    """
+    others = each_once(cube(n) + rows[:place] + rows[place + 1:])
+    return all([product(corner, rows[place]) <= 0 for corner in corners_left(others)])
 
 
 def in_order(points):

@@ -185,17 +185,32 @@ def is_corner(point, halves):
     return len(echelon(normals)[1]) == len(point)
 
 
-def cut(n, halves):
-    """The cube, clipped by one half space after the other."""
-    cube = [[sign * (k == place) for k in range(n)] + [100] for place in range(n) for sign in (1, -1)]
+def cube(n):
+    return [[sign * (k == place) for k in range(n)] + [100] for place in range(n) for sign in (1, -1)]
+
+
+def left(n, halves):
+    """The corners of the cube, clipped by one half space after the other."""
     points = [tuple(map(Fraction, p)) for p in product((-100, 100), repeat=n)]
     for k, half in enumerate(halves):
-        points = [p for p in clipped(points, half) if is_corner(p, cube + halves[:k + 1])]
+        points = [p for p in clipped(points, half) if is_corner(p, cube(n) + halves[:k + 1])]
+    return sorted(points)
+
+
+def cut(n, halves):
+    points = left(n, halves)
     lie = dimensions(points)
     if lie < n:
         return body(lie, points)
     if len(points) <= 14 - n:
         return body(lie, points, sides(n, points))
-    bounds = [half for half in cube + halves
+    bounds = [half for half in cube(n) + halves
               if dimensions([p for p in points if above_bound(half, p) == 0]) == n - 1]
     return body(lie, points, sorted(set(map(whole, bounds))))
+
+
+def needless(n, halves):
+    """Bodies are the same if their corners are."""
+    all_leave = left(n, halves)
+    places = [k for k in range(len(halves)) if left(n, halves[:k] + halves[k + 1:]) == all_leave]
+    return [len(places), *places]

@@ -145,6 +145,8 @@ bodies.mixed(2, [5, 1, 5, 1], [[0, 0], [4, 0], [0, 3]])
 bodies.mixed(2, [], [[0, 0]])
 bodies.most(2, [1, 2], [[0, 0], [4, 0], [0, 3]])
 bodies.most(2, [], [[0, 0]])
+bodies.needless(3, [[1, 2, 3, 4], [2, 4, 6, 8]])
+bodies.needless(3, [[]])
 more = sorted(name for name in set(sys.modules) - before if name.split(".")[0] != "pointbodies")
 if more:
     sys.exit(repr(more))
