@@ -1,4 +1,4 @@
-"""Points and places to try where and mixed on."""
+"""Points, and places among them, to try where, mixed and most on."""
 
 from fractions import Fraction
 from random import Random
